@@ -1,9 +1,11 @@
 """The calls on one outline, and their answers."""
 
 from outlinetexts.braces import read_braces
+from outlinetexts.editing import add_child, cut_out, move_in, move_out
 from outlinetexts.faults import Fault
 from outlinetexts.layout import read_layout
 from outlinetexts.outline import Nodes
+from outlinetexts.refusals import NO_NODE, NO_TEXT, NOT_ALLOWED
 from outlinetexts.signs import FORM_BRACES, FORM_LAID_OUT, LINE_FEED
 from outlinetexts.writing import write_braces, write_layout
 
@@ -14,9 +16,13 @@ COUNT = 3
 DEPTH = 4
 PARENT = 5
 BLOCK = 6
-
-NOT_ALLOWED = -1
-NO_NODE = -2
+PATH = 7
+TEXT = 8
+FIND = 9
+ADD = 10
+CUT = 11
+MOVE_IN = 12
+MOVE_OUT = 13
 
 
 class UnknownCall(ValueError):
@@ -83,8 +89,14 @@ def answer_call(desk, row):
         return answer_write(desk.nodes, form, row.take_number())
     if number == COUNT:
         return [desk.nodes.size()]
-    if number in (DEPTH, PARENT, BLOCK):
+    if number in (DEPTH, PARENT, BLOCK, PATH, TEXT, CUT, MOVE_IN, MOVE_OUT):
         return answer_about_node(desk.nodes, number, row.take_number())
+    if number == FIND:
+        parent = row.take_number()
+        return answer_find(desk.nodes, parent, row.take_text())
+    if number == ADD:
+        parent = row.take_number()
+        return [add_child(desk.nodes, parent, row.take_text())]
     raise UnknownCall(number)
 
 
@@ -126,11 +138,36 @@ def answer_write(nodes, form, step):
 
 
 def answer_about_node(nodes, number, i):
-    """What a call that asks one thing about node i answers."""
+    """What a call about node i alone answers."""
     if i >= nodes.size():
         return [NO_NODE]
+    if number == CUT:
+        return [cut_out(nodes, i)]
+    if number == MOVE_IN:
+        return [move_in(nodes, i)]
+    if number == MOVE_OUT:
+        return [move_out(nodes, i)]
+    return ask_about_node(nodes, number, i)
+
+
+def ask_about_node(nodes, number, i):
+    """What a call that asks one thing about node i answers."""
     if number == DEPTH:
         return [nodes.depths[i]]
     if number == PARENT:
         return [nodes.parent_of(i)]
-    return [nodes.block_of(i)]
+    if number == BLOCK:
+        return [nodes.block_end(i) - i - 1]
+    if number == PATH:
+        return [nodes.depths[i]] + nodes.path_to(i)
+    return [len(nodes.texts[i])] + nodes.texts[i]
+
+
+def answer_find(nodes, parent, text):
+    """The first node with this text and this parent; parent is a node's number plus 1, or 0 for none."""
+    if parent > nodes.size():
+        return [NO_NODE]
+    for i in range(nodes.size()):
+        if nodes.texts[i] == text and nodes.parent_of(i) == parent:
+            return [i]
+    return [NO_TEXT]

@@ -41,7 +41,7 @@ def take_line(nodes, columns, units, start):
     column = place - start
     parent = parent_line(columns, column)
     check_column(columns, parent, column, place)
-    depth = nodes.depths[parent - 1] + 1 if parent > 0 else 0
+    depth = nodes.depth_below(parent)
     check_room(nodes, depth, place)
     nodes.add_last(node_text(units, ()), depth)
     columns.append(column)

@@ -1,7 +1,7 @@
 """The units that both forms are read by."""
 
 from outlinetexts.faults import CONTROL_BYTE, LINE_END_INSIDE, TOO_LONG, WRONG_BACKSLASH, Fault
-from outlinetexts.signs import BACKSLASH, CLOSER, DELETE, HASH, LONGEST_TEXT, OPENER, SEMICOLON, SPACE
+from outlinetexts.signs import BACKSLASH, CLOSER, HASH, LONGEST_TEXT, OPENER, SEMICOLON, SPACE, is_control
 
 NO_BYTE = -1
 
@@ -67,5 +67,5 @@ def check_unit(unit, line_ends):
         raise Fault(WRONG_BACKSLASH, unit.place)
     if unit.byte in line_ends:
         raise Fault(LINE_END_INSIDE, unit.place)
-    if unit.byte < SPACE or unit.byte == DELETE:
+    if is_control(unit.byte):
         raise Fault(CONTROL_BYTE, unit.place)

@@ -16,3 +16,8 @@ FORM_BRACES = 1
 MOST_NODES = 64
 DEEPEST = 15
 LONGEST_TEXT = 64
+
+
+def is_control(byte):
+    """Whether a byte is one that no text has."""
+    return byte < SPACE or byte == DELETE

@@ -31,6 +31,34 @@ def block(i):
     return [6, i]
 
 
+def path(i):
+    return [7, i]
+
+
+def text_of(i):
+    return [8, i]
+
+
+def find(p, text):
+    return [9, p, len(text), *text]
+
+
+def add(p, text):
+    return [10, p, len(text), *text]
+
+
+def cut(i):
+    return [11, i]
+
+
+def move_in(i):
+    return [12, i]
+
+
+def move_out(i):
+    return [13, i]
+
+
 def parted(answered):
     """The answers of the calls one by one."""
     rows = []
@@ -80,13 +108,14 @@ def nodes_of(form, text):
 
 
 def state(*calls):
-    """All that can be asked about the outline after these calls."""
+    """All that can be asked about the outline after these calls, and about the first number that is no node's."""
     asks = [COUNT, write(LAID, 1), write(BRACES, 1)]
-    for i in range(65):
-        asks += [depth(i), parent(i), block(i)]
+    for i in range(last(*calls, COUNT)[0] + 1):
+        asks += [depth(i), parent(i), block(i), path(i), text_of(i)]
     shown = []
-    for start in range(0, len(asks), 40):
-        shown += run(*calls, *asks[start:start + 40])[len(calls):]
+    room = 60 - len(calls)
+    for start in range(0, len(asks), room):
+        shown += run(*calls, *asks[start:start + room])[len(calls):]
     return shown
 
 

@@ -148,6 +148,32 @@ class Language(unittest.TestCase):
             if isinstance(node, ast.Call) and isinstance(node.func, ast.Attribute):
                 self.assertIn(node.func.attr, [*METHODS, *own], name)
 
+    def test_L19_own_errors_are_taken(self):
+        own = {node.name for _, node in walked() if isinstance(node, ast.ClassDef)}
+        for name, node in walked():
+            if isinstance(node, ast.ExceptHandler):
+                self.assertIn(node.type.id, own, name)
+            if isinstance(node, ast.Raise):
+                self.assertIn(node.exc.func.id, own, name)
+
+    def test_L13_L21_L22_L24_L27_L28_what_is_not_needed_is_not_there(self):
+        for name, node in walked():
+            self.assertNotIsInstance(node, (ast.Set, ast.Lambda, ast.Pow, ast.Mod, ast.keyword, ast.Starred), name)
+            if isinstance(node, ast.Name):
+                self.assertNotIn(node.id, ("set", "frozenset", "chr"), name)
+            if isinstance(node, ast.FunctionDef):
+                self.assertIsNone(node.returns)
+                self.assertEqual([arg for arg in node.args.args if arg.annotation], [])
+                self.assertTrue(node.name == "__init__" or "__" not in node.name, node.name)
+            if isinstance(node, ast.Constant) and isinstance(node.value, str):
+                self.assertNotIn("%", node.value, name)
+
+    def test_L23_walked_at_once(self):
+        for name, node in walked():
+            if isinstance(node, (ast.Assign, ast.Return)) and isinstance(node.value, ast.Call):
+                called = getattr(node.value.func, "id", None)
+                self.assertNotIn(called, ("zip", "enumerate", "reversed", "range"), name)
+
 
 if __name__ == "__main__":
     unittest.main()

@@ -5,11 +5,12 @@ import random
 import re
 import unittest
 
-from calling import BRACES, COUNT, HIGHEST, INIT, LAID, block, chain, depth, last, nodes, parent, read, run
-from calling import state, write, written
+from calling import BRACES, COUNT, HIGHEST, INIT, LAID, add, block, chain, cut, depth, find, last, move_in, move_out, nodes
+from calling import parent, path, read, run, state, text_of, write, written
 
 SIX = b"\\#;{} "
 SAMPLE = read(BRACES, b"a{\\ b{c\\;;d\\\\}#e}f{g}h")
+EDITED = [SAMPLE, add(2, b"# n "), move_in(3), move_out(5), cut(6), add(0, b"};{\\"), move_in(7), add(8, b"\xff" * 64)]
 
 FAULTY = [
     (LAID, b"a\x01", 1), (LAID, b"a\n b\\", 2), (LAID, b" a\nb", 3), (LAID, b"a\n" * 65, 4),
@@ -199,6 +200,10 @@ class P1(unittest.TestCase):
         for text in (b"a\n b\n  c\nd\n e", b"a\n      b\n       c\nd\n e", b"   a\n    b\n         c\n   d\n        e"):
             self.assertEqual(written(BRACES, 1, read(LAID, text)), b"a{b{c}}d{e}")
 
+    def test_whatever_calls_stand_before(self):
+        for text in (b"a\n b\n  c\nd\n e", b"  a\n\n   # x\n      b\n       c\n  d\n   e"):
+            self.assertEqual(state(*EDITED, read(LAID, text)), state(read(BRACES, b"a{b{c}}d{e}")))
+
     def test_faults_hang_on_the_order_too(self):
         for text in (b"a\n  b\n c", b"a\n         b\n    c", b"     a\n         b\n      c"):
             self.assertEqual(last(read(LAID, text))[:2], [3, 3])
@@ -241,6 +246,14 @@ class P2(unittest.TestCase):
                 self.assertEqual(state(again), state(first))
 
 
+    def test_after_the_calls_that_change(self):
+        self.assertEqual(run(*EDITED), [[0], [4], [3], [5], [2], [7], [7], [8]])
+        for form, step in itertools.product((LAID, BRACES), range(1, 9)):
+            again = read(form, written(form, step, *EDITED))
+            self.assertEqual(last(again), [0])
+            self.assertEqual(state(again), state(*EDITED))
+
+
 class P3(unittest.TestCase):
     def test_a_fault_leaves_the_outline_as_it_was(self):
         for form, text, number in FAULTY:
@@ -248,6 +261,8 @@ class P3(unittest.TestCase):
             self.assertEqual((answer[0], len(answer)), (number, 3), text)
             self.assertEqual(state(SAMPLE, read(form, text)), state(SAMPLE), text)
             self.assertEqual(state(read(form, text)), state(), text)
+            self.assertEqual(last(*EDITED, read(form, text)), answer, text)
+            self.assertEqual(state(*EDITED, read(form, text)), state(*EDITED), text)
 
     def test_read_after_a_fault(self):
         for form, text, _ in FAULTY:
@@ -258,9 +273,26 @@ class P5(unittest.TestCase):
     def test_refused_calls_and_asking_calls_change_nothing(self):
         calls = [read(2, b"x"), read(HIGHEST, b""), write(0, 0), write(1, 9), write(2, 1), write(0, 3), write(1, 3), COUNT]
         calls += [call(i) for call in (depth, parent, block) for i in (0, 1, 7, 8, HIGHEST)]
+        calls += [call(i) for call in (path, text_of) for i in (0, 1, 7, 8, HIGHEST)]
+        calls += [find(p, text) for p in (0, 1, 8, 9, HIGHEST) for text in (b"a", b"f", b"", b"x" * 2048)]
         for call in calls:
             self.assertEqual(state(SAMPLE, call), state(SAMPLE), call)
-        self.assertEqual(state(SAMPLE, *calls), state(SAMPLE))
+            self.assertEqual(state(*EDITED, call), state(*EDITED), call)
+        for start in range(0, len(calls), 30):
+            self.assertEqual(state(SAMPLE, *calls[start:start + 30]), state(SAMPLE))
+
+    def test_refused_changes_change_nothing(self):
+        calls = [call(i) for call in (cut, move_in, move_out) for i in (8, 9, HIGHEST)]
+        calls += [add(p, text) for p, text in ((9, b"a"), (HIGHEST, b""), (0, b""), (1, b"\x1f"), (8, b"x" * 65))]
+        calls += [move_in(0), move_in(1), move_in(2), move_in(6), move_out(0), move_out(5), move_out(7)]
+        for call in calls:
+            self.assertLess(last(SAMPLE, call)[0], 0, call)
+            self.assertEqual(len(last(SAMPLE, call)), 1, call)
+            self.assertEqual(state(SAMPLE, call), state(SAMPLE), call)
+        for first, call in ((read(LAID, b"a\n" * 64), add(0, b"n")), (read(LAID, chain(LAID, 16)), add(16, b"n")),
+                            (read(LAID, b"a\n" + chain(LAID, 16)), move_in(1))):
+            self.assertEqual(last(first, call), [-4])
+            self.assertEqual(state(first, call), state(first))
 
     def test_always_an_outline(self):
         luck = random.Random(5)
